@@ -1,0 +1,1 @@
+"""Saved and played again: what everybody pressed is recorded and played again from that alone."""
