@@ -1,8 +1,8 @@
-"""The calls begins, press, hold, seek, cut, putBy, and their refusals."""
+"""The calls begins, press, hold, seek, cut, putBy, and their refusals; of putBy what shows without a swap."""
 
 import unittest
 
-from playedagain.recordings import Line
+from playedagain.two_recordings import Line
 from tests.helper import begins, cut, hold, last, press, put_by, replies, seek
 
 MOST = 4294967295

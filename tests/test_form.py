@@ -9,7 +9,8 @@ import unittest
 PACKAGE = pathlib.Path(__file__).resolve().parent.parent / "playedagain"
 
 NODES = """
-    Module FunctionDef arguments arg ClassDef Return Assign AugAssign For While If Raise Expr Pass Break Continue
+    Module ImportFrom alias FunctionDef arguments arg ClassDef Return Assign AugAssign For While If Raise Expr
+    Pass Break Continue
     BoolOp BinOp UnaryOp Lambda IfExp Dict List Tuple ListComp comprehension Compare Call FormattedValue JoinedStr
     Constant Attribute Subscript Name Slice keyword Load Store And Or Add Sub Mult Mod FloorDiv
     Not USub Eq NotEq Lt LtE Gt GtE Is IsNot In NotIn
@@ -34,6 +35,9 @@ WORDS_OUT = """
 
 NAMES_OUT = "register mro elements open input version_info with_traceback add_note format format_map".split()
 
+WALKED_AT_ONCE = "zip enumerate reversed range".split()
+WALKERS = "list tuple dict sorted sum any all enumerate zip min max".split()
+
 
 def files():
     return sorted(path for path in PACKAGE.rglob("*") if "__pycache__" not in path.parts and path.is_file())
@@ -48,6 +52,29 @@ def bound_in(tree):
             yield node.arg
         elif isinstance(node, ast.Name) and isinstance(node.ctx, ast.Store):
             yield node.id
+        elif isinstance(node, ast.alias):
+            yield node.asname or node.name
+
+
+def imports_in(tree):
+    """The rows of a file's imports, wherever they stand."""
+    return [node for node in ast.walk(tree) if isinstance(node, (ast.Import, ast.ImportFrom))]
+
+
+def defined_at_top(tree):
+    """The names that a file's top gives a value to, other than by an import."""
+    return [node.targets[0].id if isinstance(node, ast.Assign) else node.name
+            for node in tree.body if isinstance(node, (ast.Assign, ast.FunctionDef, ast.ClassDef))]
+
+
+def imported_at_top(tree):
+    return [part.name for row in imports_in(tree) for part in row.names]
+
+
+def locals_of(function):
+    """The names of a function's parameters and locals."""
+    return [node.arg for node in ast.walk(function) if isinstance(node, ast.arg)] + \
+        [node.id for node in ast.walk(function) if isinstance(node, ast.Name) and isinstance(node.ctx, ast.Store)]
 
 
 def attributes_in(tree, context):
@@ -65,7 +92,42 @@ class Form(unittest.TestCase):
                 yield f"{path.name}:{getattr(node, 'lineno', 0)}", node
 
     def test_files(self):
-        self.assertEqual([path.name for path in self.texts], ["__init__.py", "recordings.py"])
+        self.assertIn("recordings.py", [path.name for path in self.texts])
+        for path in self.texts:
+            self.assertEqual(path.parent, PACKAGE)
+            self.assertRegex(path.name, r"\A([a-z][a-z0-9_]*|__init__)\.py\Z")
+            self.assertNotRegex(path.stem, r"\A(test.*|site|conftest|sitecustomize|usercustomize)\Z")
+            self.assertFalse(path.stem != "__init__" and hasattr(builtins, path.stem), path)
+
+    def test_imports(self):
+        by_module = {f"playedagain.{path.stem}": tree for path, tree in self.trees.items()}
+        for path, tree in self.trees.items():
+            for row in imports_in(tree):
+                self.assertIn(row, tree.body, path)
+                self.assertIsInstance(row, ast.ImportFrom, path)
+                self.assertEqual(row.level, 0, path)
+                self.assertIn(row.module, by_module, path)
+                for part in row.names:
+                    self.assertIsNone(part.asname, path)
+                    self.assertIn(part.name, defined_at_top(by_module[row.module]), path)
+            used = {node.id for node in ast.walk(tree) if isinstance(node, ast.Name)}
+            self.assertEqual(set(imported_at_top(tree)) - used, set(), path)
+
+    def test_no_two_files_draw_from_one_another(self):
+        drawn = {f"playedagain.{path.stem}": {row.module for row in imports_in(tree)}
+                 for path, tree in self.trees.items()}
+        self.assertEqual(drawn["playedagain.__init__"], set())
+        while drawn:
+            free = [name for name in drawn if not drawn[name] & set(drawn)]
+            self.assertNotEqual(free, [], drawn)
+            drawn = {name: drawn[name] for name in drawn if name not in free}
+
+    def test_no_local_is_called_like_a_class_or_an_import(self):
+        for path, tree in self.trees.items():
+            classes = [node.name for node in tree.body if isinstance(node, ast.ClassDef)]
+            for node in ast.walk(tree):
+                if isinstance(node, ast.FunctionDef):
+                    self.assertEqual(set(locals_of(node)) & set(classes + imported_at_top(tree)), set(), path)
 
     def test_size_and_signs(self):
         for path, text in self.texts.items():
@@ -106,20 +168,31 @@ class Form(unittest.TestCase):
 
     def test_names_of_a_files_top_are_bound_once(self):
         for path, tree in self.trees.items():
-            names = [node.targets[0].id if isinstance(node, ast.Assign) else node.name
-                     for node in tree.body if not isinstance(node, ast.Expr)]
+            names = defined_at_top(tree) + imported_at_top(tree)
             self.assertEqual(len(names), len(set(names)), path)
+
+    def test_walked_at_once(self):
+        for path, tree in self.trees.items():
+            walked = []
+            for node in ast.walk(tree):
+                if isinstance(node, (ast.For, ast.comprehension)):
+                    walked.append(node.iter)
+                elif isinstance(node, ast.Call) and isinstance(node.func, ast.Name) and node.func.id in WALKERS:
+                    walked.extend(node.args)
+            for node in ast.walk(tree):
+                if isinstance(node, ast.Call) and isinstance(node.func, ast.Name) and node.func.id in WALKED_AT_ONCE:
+                    self.assertIn(node, walked, f"{path.name}:{node.lineno}")
 
     def test_no_name_is_a_method_and_a_value(self):
         methods = {part.name for where, node in self.each_node() if isinstance(node, ast.ClassDef)
                    for part in node.body if isinstance(part, ast.FunctionDef)}
+        values = set().union(*[attributes_in(tree, ast.Store) for tree in self.trees.values()])
+        self.assertEqual(methods & values, set())
         for path, tree in self.trees.items():
-            values = attributes_in(tree, ast.Store)
-            self.assertEqual(methods & values, set(), path)
             self.assertEqual(attributes_in(tree, ast.Load) - values - methods - set(METHODS), set(), path)
-            for name in methods | values:
-                taken = [kind for kind in (str, int, list, dict, set, bytes, tuple) if hasattr(kind, name)]
-                self.assertTrue(name == "__init__" or not taken, name)
+        for name in methods | values:
+            taken = [kind for kind in (str, int, list, dict, set, bytes, tuple) if hasattr(kind, name)]
+            self.assertTrue(name == "__init__" or not taken, name)
 
     def test_words_and_names_that_are_out(self):
         for path, text in self.texts.items():

@@ -1,9 +1,14 @@
 """Which states are kept, which one goes, and from where a tick is gone to."""
 
-import random
 import unittest
 
-from tests.helper import Model, begins, cut, hold, press, put_by, replies, seek
+from tests.helper import (begins, cut, hold, kept, last, modelled, press, put_by, replies, seek, spoil, sum_at, summed,
+                          swap)
+
+
+def alone(x, y):
+    """The sum of a world of one player without points, the coin where it is at first, of seed 1."""
+    return summed([x, y, 0, 8, 2, 1])
 
 
 def kept_ticks(*calls):
@@ -52,47 +57,74 @@ class Kept(unittest.TestCase):
         self.assertEqual([answer[0] for answer in found], [31, 0, 15, 15, 15, 0, 23, 0, 15, 0])
 
 
-class AsPlayedFromTheBeginning(unittest.TestCase):
-    def some_call(self, source, model):
-        ticks = len(model.keys)
-        choice = source.randrange(20)
-        keys = [source.randrange(5) for i in range(model.players)]
-        if choice == 0:
-            return begins(source.randrange(6), source.randrange(2**32))
-        if choice < 5:
-            return press(*keys)
-        if choice < 13:
-            return hold(source.choice([0, 1, 2, 3, 5, 8, 13, 21]), *keys)
-        if choice == 13:
-            return press(*[source.randrange(6) for i in range(source.randrange(6))])
-        if choice < 18:
-            return seek(source.randrange(ticks + 2))
-        if choice == 18:
-            return cut(source.randrange(ticks // 2, ticks + 2))
-        return put_by()
+class KeptCall(unittest.TestCase):
+    def test_none(self):
+        self.assertEqual(replies(kept(), hold(7, 1), kept(), press(1), kept(), cut(7), kept()),
+                         [[0], [7, 7, 0, 0, 8, 2], [0], [8, 8, 0, 0, 8, 2], [1, 8, alone(8, 0)], [7, 0], [0]])
 
-    def test_many_lines(self):
-        source = random.Random(20)
-        for number in range(400):
-            model = Model()
-            calls = [begins(source.randrange(1, 5), source.randrange(2**32))]
-            wanted = [model.answer(calls[0])]
-            while len(calls) < 40:
-                calls.append(self.some_call(source, model))
-                wanted.append(model.answer(calls[-1]))
-            self.assertEqual(replies(*calls), wanted, calls)
+    def test_six(self):
+        wanted = [6, 8, alone(8, 0), 16, alone(0, 0), 24, alone(8, 0), 32, alone(0, 0), 40, alone(8, 0), 48, alone(0, 0)]
+        for ticks in (48, 55):
+            self.assertEqual(last(hold(ticks, 1), kept()), wanted)
 
-    def test_every_tick_of_a_long_recording(self):
-        source = random.Random(8)
-        for players in (1, 2, 3, 4):
-            model = Model()
-            calls = [begins(players, source.randrange(2**32))]
-            calls += [hold(4, *[source.randrange(5) for i in range(players)]) for part in range(30)]
-            for call in calls:
-                model.answer(call)
-            for first in range(0, 121, 9):
-                seeks = [seek(tick) for tick in range(first, min(first + 9, 121))]
-                self.assertEqual(replies(*calls, *seeks)[len(calls):], [model.answer(call) for call in seeks])
+    def test_one_goes(self):
+        self.assertEqual(last(hold(30, 1), hold(26, 4), kept()),
+                         [6, 16, alone(0, 0), 24, alone(8, 0), 32, alone(14, 14), 40, alone(14, 6), 48, alone(14, 14),
+                          56, alone(14, 6)])
+        self.assertEqual(last(hold(104, 1), hold(16, 2), kept())[1::2], [32, 48, 64, 80, 104, 120])
+
+    def test_sums_with_points_and_luck(self):
+        self.assertEqual(last(hold(8, 1), hold(2, 2), hold(6, 0), kept()),
+                         [2, 8, alone(8, 0), 16, summed([8, 2, 1, 6, 14, 377401575])])
+
+    def test_which_one_goes_where_states_are_missing(self):
+        holes = [hold(72, 1), spoil(33, 0, 1), hold(24, 1), kept()]
+        self.assertEqual(last(*holes)[1::2], [16, 32, 80, 88, 96])
+        self.assertEqual(last(*holes, hold(16, 1), kept())[1::2], [16, 32, 80, 96, 104, 112])
+        self.assertEqual(last(*holes, hold(24, 1), kept())[1::2], [16, 32, 80, 96, 112, 120])
+
+    def test_of_the_one_that_goes_on(self):
+        self.assertEqual(replies(hold(9, 1), swap(), kept(), swap(), kept())[2::2], [[0], [1, 8, alone(8, 0)]])
+        self.assertEqual(replies(hold(9, 1), put_by(), begins(2, 1), kept(), swap(), kept())[3::2],
+                         [[0], [1, 8, alone(8, 0)]])
+
+    def test_kept_changes_nothing(self):
+        self.assertEqual(replies(hold(60, 1), kept(), kept(), seek(60), press(1))[2:],
+                         replies(hold(60, 1), kept(), seek(60), press(1))[1:])
+
+
+class SumAt(unittest.TestCase):
+    recorded = [hold(12, 1), hold(9, 2)]
+
+    def test_tick_0(self):
+        self.assertEqual(last(sum_at(0)), [alone(0, 0)])
+        self.assertEqual(last(*self.recorded, sum_at(0)), [alone(0, 0)])
+
+    def test_kept_ticks_and_between(self):
+        self.assertEqual(replies(*self.recorded, *[sum_at(tick) for tick in (1, 7, 8, 9, 12, 15, 16, 17)])[2:],
+                         [[alone(1, 0)], [alone(7, 0)], [alone(8, 0)], [alone(9, 0)], [alone(12, 0)],
+                          [alone(12, 3)], [alone(12, 4)], [alone(12, 5)]])
+
+    def test_last_tick(self):
+        self.assertEqual(last(*self.recorded, sum_at(21)), [alone(12, 9)])
+        self.assertEqual(last(hold(120, 1), sum_at(120)), [alone(8, 0)])
+
+    def test_no_such_tick(self):
+        self.assertEqual(replies(sum_at(1), sum_at(4294967295)), [[-2], [-2]])
+        self.assertEqual(replies(*self.recorded, sum_at(22), sum_at(4294967295))[2:], [[-2], [-2]])
+        self.assertEqual(last(hold(120, 1), sum_at(121)), [-2])
+        self.assertEqual(last(*self.recorded, cut(20), sum_at(21)), [-2])
+
+    def test_as_kept_tells(self):
+        line = [begins(3, 77), hold(30, 1, 2, 3), hold(30, 2, 2, 4), hold(33, 4, 0, 1), kept()]
+        found = last(*line)
+        self.assertEqual(found, modelled(*line)[-1])
+        for tick, total in zip(found[1::2], found[2::2]):
+            self.assertEqual(last(*line, sum_at(tick)), [total])
+
+    def test_sum_at_changes_nothing(self):
+        self.assertEqual(replies(*self.recorded, sum_at(3), kept(), seek(15), press(1))[3:],
+                         replies(*self.recorded, kept(), seek(15), press(1))[2:])
 
 
 if __name__ == "__main__":

@@ -2,8 +2,8 @@
 
 import unittest
 
-from playedagain.recordings import after_tick, first_world, next_luck, world_numbers, world_sum
-from tests.helper import begins, hold, last, press, replies
+from playedagain.small_world import after_tick, first_world, next_luck, world_numbers, world_sum
+from tests.helper import begins, hold, last, press, replies, sum_at, summed
 
 
 class FirstWorld(unittest.TestCase):
@@ -119,20 +119,23 @@ class Coin(unittest.TestCase):
 
 
 class Sum(unittest.TestCase):
-    @staticmethod
-    def summed(numbers):
-        h = 7
-        for v in numbers:
-            h = (31 * h + v + 1) % 1000000007
-        return h
-
     def test_first_worlds(self):
-        self.assertEqual(world_sum(first_world(1, 1)), self.summed([0, 0, 0, 8, 2, 1]))
-        self.assertEqual(world_sum(first_world(2, 9)), self.summed([0, 0, 0, 4, 4, 0, 8, 2, 9]))
+        self.assertEqual(world_sum(first_world(1, 1)), summed([0, 0, 0, 8, 2, 1]))
+        self.assertEqual(world_sum(first_world(2, 9)), summed([0, 0, 0, 4, 4, 0, 8, 2, 9]))
 
     def test_by_hand(self):
         # 7, 218, 6759, 209530, 6495439, 201358612, then 31 times that and 2: 6242116974.
         self.assertEqual(world_sum(first_world(1, 1)), 6242116974 - 6 * 1000000007)
+        self.assertEqual(last(sum_at(0)), [242116932])
+
+    def test_points_and_luck_of_a_later_tick(self):
+        calls = [hold(8, 1), hold(2, 2)]
+        self.assertEqual(last(*calls, sum_at(10)), [summed([8, 2, 1, 6, 14, 377401575])])
+        self.assertEqual(last(*calls, sum_at(9)), [summed([8, 1, 0, 8, 2, 1])])
+
+    def test_each_player_in_order(self):
+        self.assertEqual(last(begins(3, 5), press(1, 2, 3), sum_at(1)),
+                         [summed([1, 0, 0, 4, 5, 0, 7, 8, 0, 8, 2, 5])])
 
     def test_the_luck_counts(self):
         self.assertNotEqual(world_sum(first_world(1, 1)), world_sum(first_world(1, 2)))
