@@ -144,7 +144,8 @@ class Model:
         self.going, self.other = Take(1, 1), Take(1, 1)
 
     def answer(self, call):
-        names = ("begins", "press", "hold", "seek", "cut", "put_by", "swap", "differ", "kept", "sum_at", "keys", "spoil")
+        names = ("begins", "press", "hold", "seek", "cut", "put_by",
+                 "swap", "differ", "kept", "sum_at", "keys", "spoil")
         return getattr(self, names[call[0]])(*call[1:])
 
     def begins(self, players, seed):

@@ -63,7 +63,8 @@ class KeptCall(unittest.TestCase):
                          [[0], [7, 7, 0, 0, 8, 2], [0], [8, 8, 0, 0, 8, 2], [1, 8, alone(8, 0)], [7, 0], [0]])
 
     def test_six(self):
-        wanted = [6, 8, alone(8, 0), 16, alone(0, 0), 24, alone(8, 0), 32, alone(0, 0), 40, alone(8, 0), 48, alone(0, 0)]
+        wanted = [6, 8, alone(8, 0), 16, alone(0, 0), 24, alone(8, 0), 32, alone(0, 0), 40, alone(8, 0),
+                  48, alone(0, 0)]
         for ticks in (48, 55):
             self.assertEqual(last(hold(ticks, 1), kept()), wanted)
 

@@ -118,7 +118,8 @@ class Spoil(unittest.TestCase):
                           [2, 8, 2, 1, 6, 14]])
 
     def test_going_on_keeps_states_anew(self):
-        found = replies(hold(20, 1), spoil(3, 0, 2), hold(4, 1), kept(), seek(8), seek(24), hold(8, 2), kept(), seek(31))
+        found = replies(hold(20, 1), spoil(3, 0, 2), hold(4, 1), kept(), seek(8), seek(24), hold(8, 2), kept(),
+                        seek(31))
         self.assertEqual(found[2:], [[24, 7, 1, 0, 8, 2], [1, 24, alone(7, 1)], [8, 7, 1, 0, 8, 2], [0, 7, 1, 0, 8, 2],
                                      [32, 7, 9, 0, 8, 2], [2, 24, alone(7, 1), 32, alone(7, 9)],
                                      [7, 7, 8, 0, 8, 2]])

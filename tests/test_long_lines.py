@@ -41,7 +41,8 @@ def some_call(source, take):
     if sort == 10:
         return keys(some_tick(source, take), source.choice([0, 1, 2, 7, 120, MOST]))
     if sort == 11:
-        return spoil(some_tick(source, take), source.choice([0, 0, take.players - 1, take.players]), source.randrange(6))
+        player = source.choice([0, 0, take.players - 1, take.players])
+        return spoil(some_tick(source, take), player, source.randrange(6))
     return [sort]
 
 

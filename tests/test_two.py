@@ -72,7 +72,8 @@ class PutByThenTheOther(unittest.TestCase):
         self.is_as_it_was(begins(4, 9), hold(10, 1, 2, 3, 4))
 
     def test_the_one_put_by_is_changed_after_a_swap(self):
-        found = replies(*self.recorded, swap(), spoil(8, 0, 1), cut(19), hold(5, 4), swap(), kept(), keys(0, 120), seek(20))
+        found = replies(*self.recorded, swap(), spoil(8, 0, 1), cut(19), hold(5, 4), swap(), kept(),
+                        keys(0, 120), seek(20))
         wanted = replies(*self.recorded, kept(), keys(0, 120), seek(20))
         self.assertEqual(found[-3:], wanted[-3:])
 
